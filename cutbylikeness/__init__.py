@@ -1,0 +1,1 @@
+"""Chosen by likeness: see cutbylikeness.page.answers."""
