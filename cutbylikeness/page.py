@@ -20,9 +20,8 @@ LONGEST_SIDE = 5
 GREATEST_NUMBER = 255
 
 
+# What the calls of one line find and leave behind.
 class Page:
-    """What the calls of one line find and leave behind."""
-
     def __init__(self):
         self.columns = 1
         self.numbers = [0]
@@ -40,7 +39,6 @@ def is_cell(page, cell):
 
 
 def are_rising_cells(page, cells):
-    """Whether all of these are cells of the page, rising, each once."""
     least = 0
     for cell in cells:
         if cell < least or not is_cell(page, cell):
@@ -50,7 +48,6 @@ def are_rising_cells(page, cells):
 
 
 def cells_beside(page, cell):
-    """The cells that have a side in common with this one, rising."""
     column = cell % page.columns
     beside = []
     if cell >= page.columns:
@@ -68,11 +65,8 @@ def difference(page, one, other):
     return abs(page.numbers[one] - page.numbers[other])
 
 
+# Each cell of a way is held against the one before it if by_steps, else against start.
 def cells_reached(page, start, bound, by_steps):
-    """The cells to which a way leads from start, rising.
-
-    Each cell of the way is held against the one before it if by_steps, else against start.
-    """
     reached = {start: True}
     waiting = [start]
     while len(waiting) > 0:
@@ -106,8 +100,8 @@ def put_sharp(page, sharp):
     return 0
 
 
+# What steps answers if by_steps, else what like does.
 def choose(page, start, bound, by_steps):
-    """What like answers, or steps if by_steps."""
     if not is_cell(page, start):
         return [NO_PLACE]
     if bound > GREATEST_NUMBER:
@@ -116,8 +110,8 @@ def choose(page, start, bound, by_steps):
     return [len(cells)] + cells
 
 
+# How many seeds these are, or why they can't be seeds as long as the other side has its own.
 def seeds_answer(page, cells, other_side):
-    """How many seeds these are, or why they can't be seeds while other_side has those it has."""
     if not are_rising_cells(page, cells):
         return NO_PLACE
     for cell in cells:
@@ -140,8 +134,8 @@ def put_without(page, cells):
     return answer
 
 
+# What the call leaves behind is left in page.
 def answer_to(page, call, wholes, row):
-    """The numbers that one call answers; what it leaves behind is left in page."""
     if call == PAGE:
         return [put_page(page, wholes[0], wholes[1], row)]
     if call == SHARP:
@@ -155,8 +149,8 @@ def answer_to(page, call, wholes, row):
     return [put_without(page, row)]
 
 
+# For each call of the line, in order: how many numbers are answered, then these.
 def answers(calls):
-    """For each call of the line, in order: how many numbers are answered, then these."""
     page = Page()
     given = []
     at = 0

@@ -52,6 +52,7 @@ class TestLanguage(unittest.TestCase):
                 self.assertFalse(node.args.vararg or node.args.kwarg or node.args.kwonlyargs, place)
 
     def test_statements_and_expressions(self):
+        openings = [tree.body[0] for tree in self.trees.values()]
         for place, node in self.nodes():
             if isinstance(node, ast.stmt):
                 self.assertIsInstance(node, STATEMENTS, place)
@@ -61,6 +62,8 @@ class TestLanguage(unittest.TestCase):
                 self.assertEqual(node.orelse, [], place)
             if isinstance(node, ast.Assign):
                 self.assertEqual(len(node.targets), 1, place)
+            if isinstance(node, ast.Expr) and node not in openings:
+                self.assertIsInstance(node.value, ast.Call, place)
             if isinstance(node, ast.Constant):
                 self.assertIn(type(node.value), (int, str, bool, type(None)), place)
             self.assertNotIsInstance(node, (ast.Div, ast.Is, ast.IsNot), place)
