@@ -156,7 +156,7 @@ class TestAgainstEveryWay(unittest.TestCase):
                     self.fail((w, h, numbers, call.__name__, c, t, answer))
 
     def test_small_pages(self):
-        for w, h in ((1, 1), (1, 2), (2, 1), (1, 4), (4, 1), (2, 2)):
+        for w, h in ((1, 1), (1, 2), (2, 1), (1, 3), (3, 1), (1, 4), (4, 1), (2, 2)):
             for numbers in itertools.product((0, 1, 2, 4), repeat=w * h):
                 self.check(w, h, numbers, (0, 1, 2))
 
