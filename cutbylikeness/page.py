@@ -6,18 +6,26 @@ LIKE = 2
 STEPS = 3
 WITHIN = 4
 WITHOUT = 5
+CUT = 6
+WIDE = 7
+COST = 8
+EDGE = 9
+PRICE = 10
 
 # By a call's number: how many whole numbers stand behind it, and whether a row stands behind these.
-WHOLES = (2, 1, 2, 2, 0, 0)
-HAS_ROW = (True, False, False, False, True, True)
+WHOLES = (2, 1, 2, 2, 0, 0, 0, 0, 0, 0, 2)
+HAS_ROW = (True, False, False, False, True, True, False, False, True, False, False)
 
-# The refusals: what has no place on the page, a number out of its bounds, a seed of the other side.
+# The refusals: what has no place on the page, a number out of its bounds, no seeds on a side, a seed of the other side.
 NO_PLACE = -1
 OUT_OF_BOUNDS = -2
+NO_SEEDS = -4
 OTHER_SIDE = -6
 
 LONGEST_SIDE = 5
 GREATEST_NUMBER = 255
+# What it costs to part cells beside one another that have the same number.
+GREATEST_PARTING = 255
 
 
 # What the calls of one line find and leave behind.
@@ -47,6 +55,7 @@ def are_rising_cells(page, cells):
     return True
 
 
+# Rising, as edge tells them.
 def cells_beside(page, cell):
     column = cell % page.columns
     beside = []
@@ -77,6 +86,94 @@ def cells_reached(page, start, bound, by_steps):
                 reached[other] = True
                 waiting.append(other)
     return sorted(reached)
+
+
+# For two cells that are beside one another.
+def parting(page, one, other):
+    return max(1, GREATEST_PARTING - page.sharp * difference(page, one, other))
+
+
+# Each cell of the region with each one beside it that isn't the region's.
+def parted_pairs(page, region):
+    pairs = []
+    for cell in region:
+        for other in cells_beside(page, cell):
+            if other not in region:
+                pairs.append((cell, other))
+    return pairs
+
+
+def cost_of(page, region):
+    return sum([parting(page, one, other) for one, other in parted_pairs(page, region)])
+
+
+# The least of the cheapest regions is found by a flow: as much as can be is led from the seeds of its side to those of
+# the other, from cell to cell no more than it costs to part them. What's still reached then is that region.
+
+# For each cell and each one beside it, how much can still be led from the one to the other.
+def whole_room(page):
+    room = []
+    for cell in range(len(page.numbers)):
+        to = {}
+        for other in cells_beside(page, cell):
+            to[other] = parting(page, cell, other)
+        room.append(to)
+    return room
+
+
+# The cells to which there's room on a way from starts, the nearest first, each with the one before it on that way;
+# a start has itself there.
+def reached_through(room, starts):
+    before = {}
+    for cell in starts:
+        before[cell] = cell
+    waiting = list(starts)
+    at = 0
+    while at < len(waiting):
+        cell = waiting[at]
+        for other in room[cell]:
+            if room[cell][other] > 0 and other not in before:
+                before[other] = cell
+                waiting.append(other)
+        at += 1
+    return before
+
+
+# The pairs of cells that follow one another on a shortest way with room, none if there's no such way.
+def way_with_room(room, starts, ends):
+    before = reached_through(room, starts)
+    reached = [cell for cell in before if cell in ends]
+    pairs = []
+    if len(reached) > 0:
+        cell = reached[0]
+        while before[cell] != cell:
+            pairs.append((before[cell], cell))
+            cell = before[cell]
+    return pairs
+
+
+def lead_along(room, way):
+    much = min([room[one][other] for one, other in way])
+    for one, other in way:
+        room[one][other] -= much
+        # A later way may lead this back.
+        room[other][one] += much
+
+
+# Of the cheapest regions with all of own_seeds and none of other_seeds.
+def least_region(page, own_seeds, other_seeds):
+    room = whole_room(page)
+    way = way_with_room(room, own_seeds, other_seeds)
+    while len(way) > 0:
+        lead_along(room, way)
+        way = way_with_room(room, own_seeds, other_seeds)
+    return sorted(reached_through(room, own_seeds))
+
+
+# What a region leaves out costs the same: where the other side has the least that it can have, this one has the most.
+def greatest_region(page):
+    left_out = least_region(page, page.without, page.within)
+    return [cell for cell in range(len(page.numbers)) if cell not in left_out]
 
 
 def put_page(page, columns, rows, numbers):
@@ -134,6 +231,44 @@ def put_without(page, cells):
     return answer
 
 
+def tell_region(page, region):
+    return [cost_of(page, region), len(region)] + region
+
+
+def tell_pairs(pairs):
+    told = [len(pairs)]
+    for one, other in pairs:
+        told.append(one)
+        told.append(other)
+    return told
+
+
+# What cut, wide or edge answers.
+def tell_cheapest(page, call):
+    if len(page.within) == 0 or len(page.without) == 0:
+        return [NO_SEEDS]
+    if call == WIDE:
+        return tell_region(page, greatest_region(page))
+    region = least_region(page, page.within, page.without)
+    if call == CUT:
+        return tell_region(page, region)
+    return tell_pairs(parted_pairs(page, region))
+
+
+def tell_cost(page, cells):
+    if not are_rising_cells(page, cells):
+        return NO_PLACE
+    return cost_of(page, cells)
+
+
+def tell_price(page, one, other):
+    if not is_cell(page, one) or not is_cell(page, other):
+        return NO_PLACE
+    if other not in cells_beside(page, one):
+        return 0
+    return parting(page, one, other)
+
+
 # What the call leaves behind is left in page.
 def answer_to(page, call, wholes, row):
     if call == PAGE:
@@ -146,7 +281,13 @@ def answer_to(page, call, wholes, row):
         return choose(page, wholes[0], wholes[1], True)
     if call == WITHIN:
         return [put_within(page, row)]
-    return [put_without(page, row)]
+    if call == WITHOUT:
+        return [put_without(page, row)]
+    if call == COST:
+        return [tell_cost(page, row)]
+    if call == PRICE:
+        return [tell_price(page, wholes[0], wholes[1])]
+    return tell_cheapest(page, call)
 
 
 # For each call of the line, in order: how many numbers are answered, then these.

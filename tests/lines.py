@@ -31,6 +31,26 @@ def without(*cells):
     return [5, len(cells)] + list(cells)
 
 
+def cut():
+    return [6]
+
+
+def wide():
+    return [7]
+
+
+def cost(*cells):
+    return [8, len(cells)] + list(cells)
+
+
+def edge():
+    return [9]
+
+
+def price(a, b):
+    return [10, a, b]
+
+
 def ask(*calls):
     """The list given back for these calls in one line."""
     return answers(list(itertools.chain(*calls)))

@@ -2,12 +2,7 @@
 
 import unittest
 
-from cutbylikeness.page import PAGE, SHARP, WITHIN, WITHOUT, Page, answer_to
-from tests.lines import GREATEST, ask, last, like, page, sharp, steps, told, within, without
-
-
-def state(held):
-    return (held.columns, held.numbers, held.sharp, held.within, held.without)
+from tests.lines import GREATEST, ask, cut, edge, last, like, page, price, sharp, steps, told, wide, within, without
 
 
 class TestPage(unittest.TestCase):
@@ -68,11 +63,15 @@ class TestPage(unittest.TestCase):
         self.assertEqual(told(*line), [[0], [0], [1, 0], [-1], [2, 0, 1]])
 
     def test_lets_sharp_stay(self):
-        held = Page()
-        self.assertEqual(state(held), (1, [0], 1, [], []))
-        answer_to(held, SHARP, [77], [])
-        self.assertEqual(answer_to(held, PAGE, [2, 1], [3, 4]), [0])
-        self.assertEqual(state(held), (2, [3, 4], 77, [], []))
+        self.assertEqual(told(sharp(77), page(2, 1, [3, 4]), price(0, 1)), [[0], [0], [178]])
+        line = (sharp(77), page(2, 1, [3, 4]), page(1, 2, [5, 3]), price(0, 1), page(1, 1, [0]), page(2, 1, [9, 9]),
+                price(0, 1), page(2, 1, [9, 8]), price(1, 0))
+        self.assertEqual(told(*line), [[0], [0], [0], [101], [0], [0], [255], [0], [178]])
+
+    def test_has_no_seeds(self):
+        seeds = (page(2, 1, [3, 4]), within(0), without(1), cut())
+        self.assertEqual(told(*seeds, page(2, 1, [3, 4]), cut(), wide(), edge())[3:],
+                         [[254, 1, 0], [0], [-4], [-4], [-4]])
 
     def test_refused_leaves_all_as_it_was(self):
         for refused in (page(6, 1, [0] * 6), page(1, 6, [0] * 6), page(1, 2, [0]), page(1, 1, [256]),
@@ -83,14 +82,9 @@ class TestPage(unittest.TestCase):
                 self.assertEqual(told(*line)[4:], [[2, 0, 1], [3, 0, 1, 3], [-1], [-6], [-6]])
 
     def test_refused_leaves_sharp_as_it_was(self):
-        held = Page()
-        answer_to(held, PAGE, [2, 1], [3, 4])
-        answer_to(held, SHARP, [77], [])
-        answer_to(held, WITHIN, [], [0])
-        answer_to(held, WITHOUT, [], [1])
-        for wholes, row in (([0, 1], []), ([2, 1], [0, 256]), ([2, 1], [0])):
-            self.assertLess(answer_to(held, PAGE, wholes, row)[0], 0)
-            self.assertEqual(state(held), (2, [3, 4], 77, [0], [1]))
+        for refused in (page(0, 1, []), page(2, 1, [0, 256]), page(2, 1, [0])):
+            line = (page(2, 1, [3, 4]), sharp(77), within(0), without(1), refused, price(0, 1), cut())
+            self.assertEqual(told(*line)[5:], [[178], [178, 1, 0]])
 
 
 class TestSharp(unittest.TestCase):
@@ -99,24 +93,20 @@ class TestSharp(unittest.TestCase):
             with self.subTest(k=k):
                 self.assertEqual(ask(sharp(k)), [1, answer])
 
+    def test_is_1_at_the_beginning(self):
+        self.assertEqual(last(page(2, 1, [3, 5]), price(0, 1)), [253])
+
     def test_is_k_and_all_else_stays(self):
-        held = Page()
-        answer_to(held, PAGE, [2, 1], [3, 4])
-        answer_to(held, WITHIN, [], [0])
-        answer_to(held, WITHOUT, [], [1])
-        for k in (255, 1, 9):
-            self.assertEqual(answer_to(held, SHARP, [k], []), [0])
-            self.assertEqual(state(held), (2, [3, 4], k, [0], [1]))
+        here = (page(2, 1, [3, 4]), within(0), without(1))
+        for k, parting in ((255, 1), (254, 1), (253, 2), (1, 254), (9, 246)):
+            self.assertEqual(told(*here, sharp(100), sharp(k), price(0, 1), cut(), like(0, 0), like(2, 0))[4:],
+                             [[0], [parting], [parting, 1, 0], [1, 0], [-1]])
 
     def test_refused_leaves_all_as_it_was(self):
-        held = Page()
-        answer_to(held, PAGE, [2, 1], [3, 4])
-        answer_to(held, SHARP, [9], [])
-        answer_to(held, WITHIN, [], [0])
-        answer_to(held, WITHOUT, [], [1])
+        here = (page(2, 1, [3, 4]), sharp(9), within(0), without(1))
         for k in (0, 256, GREATEST):
-            self.assertEqual(answer_to(held, SHARP, [k], []), [-2])
-            self.assertEqual(state(held), (2, [3, 4], 9, [0], [1]))
+            self.assertEqual(told(*here, sharp(k), price(0, 1), cut(), like(0, 0), like(2, 0))[4:],
+                             [[-2], [246], [246, 1, 0], [1, 0], [-1]])
 
     def test_seeds_stay(self):
         self.assertEqual(told(within(0), sharp(5), without(0)), [[1], [0], [-6]])

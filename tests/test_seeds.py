@@ -2,8 +2,7 @@
 
 import unittest
 
-from cutbylikeness.page import PAGE, SHARP, WITHIN, WITHOUT, Page, answer_to
-from tests.lines import GREATEST, ask, last, like, page, steps, told, within, without
+from tests.lines import GREATEST, ask, last, like, page, price, sharp, steps, told, within, without
 
 NINE = page(3, 3, [1, 2, 3, 4, 5, 6, 7, 8, 9])
 SIDES = ((within, without), (without, within))
@@ -90,13 +89,9 @@ class TestSeeds(unittest.TestCase):
                 self.assertEqual(told(*line)[3:], [[2, 0, 1], [3, 0, 1, 2], [4, 5, 6, 7, 8], [-1]])
 
     def test_sharp_stays(self):
-        for side in WITHIN, WITHOUT:
-            held = Page()
-            answer_to(held, PAGE, [2, 1], [3, 4])
-            answer_to(held, SHARP, [9], [])
-            for cells in ([0], [0, 1], [], [2], [1, 0]):
-                answer_to(held, side, [], cells)
-                self.assertEqual((held.columns, held.numbers, held.sharp), (2, [3, 4], 9))
+        for side, other in SIDES:
+            for cells in ((0,), (0, 1), (), (2,), (1, 0)):
+                self.assertEqual(last(page(2, 1, [3, 4]), sharp(9), side(*cells), price(0, 1)), [246])
 
 
 if __name__ == "__main__":
